@@ -1,0 +1,98 @@
+"""How the offices of a coalition are dealt out.
+
+A set of parties is a number in which party i counts 2^i.
+"""
+
+MOST_OFFICES = 10
+MOST_PARTIES = 6
+MOST_SEATS = 200
+MOST_HATE_NUMBERS = 40
+
+REFUSED_HOUSE = -22
+REFUSED_CHOICE = -2
+
+
+def offices_fit(m):
+    return m >= 1 and m <= MOST_OFFICES
+
+
+def seats_fit(seats):
+    if len(seats) < 1 or len(seats) > MOST_PARTIES:
+        return False
+    for number in seats:
+        if number < 1 or number > MOST_SEATS:
+            return False
+    return True
+
+
+def hates_fit(parties, hates):
+    if len(hates) % 2 != 0 or len(hates) > MOST_HATE_NUMBERS:
+        return False
+    for k in range(0, len(hates), 2):
+        if hates[k] == hates[k + 1]:
+            return False
+        if hates[k] >= parties or hates[k + 1] >= parties:
+            return False
+    return True
+
+
+def house_fits(m, seats, hates):
+    return offices_fit(m) and seats_fit(seats) and hates_fit(len(seats), hates)
+
+
+def set_fits(s, parties):
+    return s >= 1 and s < (1 << parties)
+
+
+def is_in(party, s):
+    return ((s >> party) & 1) == 1
+
+
+def members_of(s, parties):
+    return [party for party in range(parties) if is_in(party, s)]
+
+
+def has_most_seats(s, seats):
+    held = sum([seats[party] for party in members_of(s, len(seats))])
+    # Doubled, because half of an odd sum is no whole number.
+    return 2 * held > sum(seats)
+
+
+def has_hate_within(s, hates):
+    for k in range(0, len(hates), 2):
+        if is_in(hates[k], s) and is_in(hates[k + 1], s):
+            return True
+    return False
+
+
+def may_govern(s, seats, hates):
+    return has_most_seats(s, seats) and not has_hate_within(s, hates)
+
+
+def whose_turn(members, seats, had):
+    chosen = members[0]
+    for party in members:
+        # Multiplied crosswise, because the quotients are no whole numbers.
+        # Only a greater one takes over, so of like ones the first party stays.
+        if seats[party] * (had[chosen] + 1) > seats[chosen] * (had[party] + 1):
+            chosen = party
+    return chosen
+
+
+def offices_in(m, s, seats):
+    members = members_of(s, len(seats))
+    had = [0] * MOST_PARTIES
+    for office in range(m):
+        party = whose_turn(members, seats, had)
+        had[party] = had[party] + 1
+    return had
+
+
+def deal(m, s, seats, hates):
+    """Answer 1 if set s may govern, else 0, and the offices of six parties in it."""
+    if not house_fits(m, seats, hates):
+        return [REFUSED_HOUSE]
+    if not set_fits(s, len(seats)):
+        return [REFUSED_CHOICE]
+    governs = 1 if may_govern(s, seats, hates) else 0
+    return [governs] + offices_in(m, s, seats)
