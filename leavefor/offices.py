@@ -1,4 +1,4 @@
-"""How the offices of a coalition are dealt out.
+"""Which coalitions may govern, and how their offices are dealt out.
 
 A set of parties is a number in which party i counts 2^i.
 """
@@ -96,3 +96,15 @@ def deal(m, s, seats, hates):
         return [REFUSED_CHOICE]
     governs = 1 if may_govern(s, seats, hates) else 0
     return [governs] + offices_in(m, s, seats)
+
+
+def governing_sets(seats, hates):
+    return [s for s in range(1, 1 << len(seats)) if may_govern(s, seats, hates)]
+
+
+def mays(m, seats, hates):
+    """Answer how many sets may govern, and these, rising."""
+    if not house_fits(m, seats, hates):
+        return [REFUSED_HOUSE]
+    sets = governing_sets(seats, hates)
+    return [len(sets)] + sets
