@@ -1,4 +1,4 @@
-"""Which coalitions may govern, and how their offices are dealt out.
+"""Which coalitions may govern, how their offices are dealt out, and who would leave whom.
 
 A set of parties is a number in which party i counts 2^i.
 """
@@ -107,4 +107,32 @@ def mays(m, seats, hates):
     if not house_fits(m, seats, hates):
         return [REFUSED_HOUSE]
     sets = governing_sets(seats, hates)
+    return [len(sets)] + sets
+
+
+def all_have_more(members, there, here):
+    for party in members:
+        if there[party] <= here[party]:
+            return False
+    return True
+
+
+def is_left_for(m, s, other, seats):
+    # Whoever isn't in s counts 0 offices in it, so for them one office is more already.
+    here = offices_in(m, s, seats)
+    there = offices_in(m, other, seats)
+    return all_have_more(members_of(other, len(seats)), there, here)
+
+
+def sets_left_for(m, s, seats, hates):
+    return [other for other in governing_sets(seats, hates) if is_left_for(m, s, other, seats)]
+
+
+def leave(m, s, seats, hates):
+    """Answer how many sets that may govern set s is left for, and these, rising."""
+    if not house_fits(m, seats, hates):
+        return [REFUSED_HOUSE]
+    if not set_fits(s, len(seats)):
+        return [REFUSED_CHOICE]
+    sets = sets_left_for(m, s, seats, hates)
     return [len(sets)] + sets

@@ -96,3 +96,16 @@ def dealt(m, s, seats):
     ]
     winners = [party for quotient, party in sorted(quotients)[:m]]
     return [winners.count(party) for party in range(6)]
+
+
+def leavings(m, seats, hates):
+    """Of every set those that it is left for, rising, reckoned for the house at once."""
+    offices = {s: dealt(m, s, seats) for s in sets_of(seats)}
+    governing = [s for s in sets_of(seats) if governs(s, seats, hates)]
+    return {
+        s: [
+            other for other in governing
+            if min(offices[other][party] - offices[s][party] for party in members(other)) > 0
+        ]
+        for s in sets_of(seats)
+    }
