@@ -136,3 +136,15 @@ def leave(m, s, seats, hates):
         return [REFUSED_CHOICE]
     sets = sets_left_for(m, s, seats, hates)
     return [len(sets)] + sets
+
+
+def stable_sets(m, seats, hates):
+    return [s for s in governing_sets(seats, hates) if sets_left_for(m, s, seats, hates) == []]
+
+
+def stable(m, seats, hates):
+    """Answer how many sets that may govern are left for none, and these, rising."""
+    if not house_fits(m, seats, hates):
+        return [REFUSED_HOUSE]
+    sets = stable_sets(m, seats, hates)
+    return [len(sets)] + sets
