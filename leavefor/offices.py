@@ -148,3 +148,23 @@ def stable(m, seats, hates):
         return [REFUSED_HOUSE]
     sets = stable_sets(m, seats, hates)
     return [len(sets)] + sets
+
+
+def way_on(m, s, seats, hates):
+    there = [s]
+    sets = sets_left_for(m, s, seats, hates)
+    while sets != [] and sets[0] not in there:
+        there.append(sets[0])
+        sets = sets_left_for(m, sets[0], seats, hates)
+    # If a set is still due, it was there already, and comes once more as the last.
+    return there[1:] + sets[:1]
+
+
+def on(m, s, seats, hates):
+    """Answer how many sets come behind set s, always the first that is left for, and these in turn."""
+    if not house_fits(m, seats, hates):
+        return [REFUSED_HOUSE]
+    if not set_fits(s, len(seats)):
+        return [REFUSED_CHOICE]
+    way = way_on(m, s, seats, hates)
+    return [len(way)] + way
