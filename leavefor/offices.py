@@ -10,6 +10,7 @@ MOST_HATE_NUMBERS = 40
 
 REFUSED_HOUSE = -22
 REFUSED_CHOICE = -2
+NEVER_GOVERNS = -33
 
 
 def offices_fit(m):
@@ -42,6 +43,10 @@ def house_fits(m, seats, hates):
 
 def set_fits(s, parties):
     return s >= 1 and s < (1 << parties)
+
+
+def party_fits(i, parties):
+    return i < parties
 
 
 def is_in(party, s):
@@ -168,3 +173,25 @@ def on(m, s, seats, hates):
         return [REFUSED_CHOICE]
     way = way_on(m, s, seats, hates)
     return [len(way)] + way
+
+
+def best_set_of(sets, m, party, seats):
+    chosen = sets[0]
+    for s in sets:
+        # Only more offices take over, so of like ones the least set stays, as the sets rise.
+        if offices_in(m, s, seats)[party] > offices_in(m, chosen, seats)[party]:
+            chosen = s
+    return chosen
+
+
+def best(m, i, seats, hates):
+    """Answer the most offices that party i has in a set with it that may govern, and the least such set."""
+    if not house_fits(m, seats, hates):
+        return [REFUSED_HOUSE]
+    if not party_fits(i, len(seats)):
+        return [REFUSED_CHOICE]
+    sets = [s for s in governing_sets(seats, hates) if is_in(i, s)]
+    if sets == []:
+        return [NEVER_GOVERNS]
+    chosen = best_set_of(sets, m, i, seats)
+    return [offices_in(m, chosen, seats)[i], chosen]
